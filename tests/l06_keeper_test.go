@@ -92,21 +92,24 @@ func isLent(k impl.Keeper, ino int) bool {
 }
 
 func wantLend(k impl.Keeper, client int, ino int, ticks int) (impl.Keeper, int) {
-	if !wantKeeper(k) || client < 0 || client > 8 || ticks < 1 || ticks > 100 {
+	if !wantKeeper(k) {
 		return impl.Keeper{}, impl.Wrong
+	}
+	if client < 0 || client > 8 || ticks < 1 || ticks > 100 {
+		return k, impl.Wrong
 	}
 	w := told{}
 	truth := wantTruth(k)
 	w.read(truth)
 	if ino < 0 || ino > 7 || w.inodes[ino].Kind == 0 {
-		return impl.Keeper{}, impl.NoFile
+		return k, impl.NoFile
 	}
 	n := w.inodes[ino]
 	if isLent(k, ino) {
-		return impl.Keeper{}, impl.Busy
+		return k, impl.Busy
 	}
 	if n.Owner != 9 && n.Owner != client {
-		return impl.Keeper{}, impl.Denied
+		return k, impl.Denied
 	}
 	l := impl.Loan{Ino: ino, Client: client, Until: k.Clock + ticks, Rec: truth[32+16*ino : 48+16*ino], Pages: n.Pages}
 	for _, page := range n.Pages {
@@ -144,6 +147,15 @@ func wantLend(k impl.Keeper, client int, ino int, ticks int) (impl.Keeper, int) 
 	return k, impl.Good
 }
 
+// wantStays is the keeper beside a code that refuses: one that is right stays
+// as it is.
+func wantStays(k impl.Keeper) impl.Keeper {
+	if !wantKeeper(k) {
+		return impl.Keeper{}
+	}
+	return cloneKeeper(k)
+}
+
 // wantAccess is the code that Touch, Last and Look have in common.
 func wantAccess(k impl.Keeper, client int, i int, n int) int {
 	if !wantKeeper(k) {
@@ -172,7 +184,7 @@ func wantBack(k impl.Keeper, client int, ino int) (impl.Keeper, int) {
 	}
 	at := slices.IndexFunc(k.Loans, func(l impl.Loan) bool { return l.Ino == ino && l.Client == client })
 	if at < 0 {
-		return impl.Keeper{}, impl.NoFile
+		return k, impl.NoFile
 	}
 	l, truth := k.Loans[at], wantTruth(k)
 	inos, taken := wantTaken(k.Dev.Mem, l)
@@ -238,8 +250,9 @@ func holdKeeper(t *testing.T, k impl.Keeper) bool {
 	return ok
 }
 
-// holdAnswer asks that a keeper that is answered is as wanted, and right, and
-// that the one that was asked is as it was; it answers the one to go on with.
+// holdAnswer asks that a keeper that is answered is as wanted, and right, unless
+// the one that was asked was not, and that this one is as it was; it answers the
+// one to go on with.
 func holdAnswer(t *testing.T, what string, was impl.Keeper, k impl.Keeper, got impl.Keeper, want impl.Keeper, code int, wantCode int) impl.Keeper {
 	t.Helper()
 	if code != wantCode || !sameKeeper(got, want) {
@@ -248,10 +261,7 @@ func holdAnswer(t *testing.T, what string, was impl.Keeper, k impl.Keeper, got i
 	if !sameKeeper(was, k) {
 		t.Fatalf("%s changes the keeper that was asked: %+v, was %+v", what, k, was)
 	}
-	if code != impl.Good && code != impl.Rejected {
-		return k
-	}
-	if !holdKeeper(t, got) {
+	if !holdKeeper(t, got) && wantKeeper(was) {
 		t.Fatalf("%s: not right any more is %+v, from %+v", what, got, was)
 	}
 	return got
@@ -267,10 +277,9 @@ func tryLend(t *testing.T, k impl.Keeper, client int, ino int, ticks int) (impl.
 
 func tryTouch(t *testing.T, k impl.Keeper, client int, i int, text string) (impl.Keeper, int) {
 	t.Helper()
-	was, want := cloneKeeper(k), impl.Keeper{}
+	was, want := cloneKeeper(k), wantStays(k)
 	wantCode := wantAccess(k, client, i, len(text))
 	if wantCode == impl.Good {
-		want = cloneKeeper(k)
 		want.Dev.Mem = want.Dev.Mem[:i] + text + want.Dev.Mem[i+len(text):]
 	}
 	got, code := impl.Touch(k, client, i, text)
@@ -279,10 +288,9 @@ func tryTouch(t *testing.T, k impl.Keeper, client int, i int, text string) (impl
 
 func tryLast(t *testing.T, k impl.Keeper, client int, i int, n int) (impl.Keeper, int) {
 	t.Helper()
-	was, want := cloneKeeper(k), impl.Keeper{}
+	was, want := cloneKeeper(k), wantStays(k)
 	wantCode := wantAccess(k, client, i, n)
 	if wantCode == impl.Good {
-		want = cloneKeeper(k)
 		want.Dev = wantFlush(k.Dev, i, n)
 	}
 	got, code := impl.Last(k, client, i, n)
@@ -584,6 +592,125 @@ func TestLendRefuses(t *testing.T) {
 		for _, c := range [][3]int{{far, 0, 1}, {0, far, 1}, {0, 0, far}, {far, far, far}} {
 			tryLend(t, k, c[0], c[1], c[2])
 		}
+	}
+}
+
+// refusing is a keeper of which a client holds two loans, with something
+// written that does not last yet, and another client one.
+func refusing(t *testing.T) impl.Keeper {
+	t.Helper()
+	k := keeperOf(pattern(9, 768), givers())
+	k.Clock = 12
+	k = mustLend(t, mustLend(t, mustLend(t, k, 1, 0, 9), 1, 1, 20), 2, 2, 100)
+	return mustTouch(t, k, 1, 32*7, "written")
+}
+
+// holdStays is the beginning of promise 6, beside a code that refuses: the
+// keeper that is answered is right, and tells what the one told that was asked.
+func holdStays(t *testing.T, what string, k impl.Keeper, got impl.Keeper, code int, want int) {
+	t.Helper()
+	if code != want {
+		t.Errorf("%s: the code %d, not %d", what, code, want)
+	}
+	if !impl.KeeperOk(got) || !sameKeeper(got, k) || impl.Truth(got) != impl.Truth(k) {
+		t.Errorf("%s: the keeper does not stay right: %+v", what, got)
+		return
+	}
+	if len(got.Loans) != 3 || got.Clock != 12 || len(wantDirty(got.Dev)) != 1 {
+		t.Errorf("%s: the keeper has %d loans, the clock %d, the dirty lines %v", what, len(got.Loans), got.Clock, wantDirty(got.Dev))
+	}
+}
+
+func TestKeeperStaysWhenItDoesNotLend(t *testing.T) {
+	k := refusing(t)
+	for what, c := range map[string]struct {
+		client int
+		ino    int
+		ticks  int
+		want   int
+	}{
+		"a free inode":         {3, 6, 5, impl.NoFile},
+		"a fresh inode":        {1, 7, 5, impl.NoFile},
+		"inode 8":              {3, 8, 5, impl.NoFile},
+		"inode -1":             {3, -1, 5, impl.NoFile},
+		"what is lent":         {2, 0, 5, impl.Busy},
+		"what it has already":  {1, 1, 5, impl.Busy},
+		"what is another's":    {4, 3, 5, impl.Denied},
+		"no client":            {9, 0, 5, impl.Wrong},
+		"client -1":            {-1, 3, 5, impl.Wrong},
+		"no tick":              {3, 3, 0, impl.Wrong},
+		"one tick too many":    {3, 3, 101, impl.Wrong},
+		"less ticks than none": {3, 3, math.MinInt, impl.Wrong},
+	} {
+		got, code := impl.Lend(k, c.client, c.ino, c.ticks)
+		holdStays(t, "Lend, "+what, k, got, code, c.want)
+	}
+	own, _ := impl.KeeperNew(3)
+	if got, code := impl.Lend(own, 1, 0, 3); code != impl.Denied || !impl.KeeperOk(got) || !sameKeeper(got, own) {
+		t.Errorf("Lend of another's: %d, %+v", code, got)
+	}
+}
+
+// noAccess are clients, places and numbers of bytes that are not lent in
+// refusing.
+func noAccess() map[string][3]int {
+	return map[string][3]int{
+		"no byte": {1, 32, 0}, "the head": {1, 0, 1}, "another client's record": {2, 32, 1}, "another client's page": {1, 32 * 8, 1},
+		"a page of none": {1, 32 * 23, 1}, "one byte too many": {2, 64, 17}, "bytes of two loans": {1, 32, 32}, "ahead of the memory": {1, -1, 1},
+		"the end": {1, 767, 2}, "behind the memory": {1, 768, 1}, "far behind it": {1, math.MaxInt, 1}, "more than there is": {1, 0, 769},
+		"a client without a loan": {3, 32, 1}, "no client": {9, 32, 1}, "client -1": {-1, 32, 1},
+	}
+}
+
+func TestKeeperStaysWhenItIsNotTouched(t *testing.T) {
+	k := refusing(t)
+	for what, c := range noAccess() {
+		got, code := impl.Touch(k, c[0], c[1], strings.Repeat("x", c[2]))
+		holdStays(t, "Touch, "+what, k, got, code, impl.Fault)
+	}
+}
+
+func TestKeeperStaysWhenNothingLasts(t *testing.T) {
+	k := refusing(t)
+	for what, c := range noAccess() {
+		got, code := impl.Last(k, c[0], c[1], c[2])
+		holdStays(t, "Last, "+what, k, got, code, impl.Fault)
+	}
+	for _, n := range []int{math.MinInt, -1, math.MaxInt} {
+		got, code := impl.Last(k, 1, 32, n)
+		holdStays(t, "Last of "+strconv.Itoa(n), k, got, code, impl.Fault)
+	}
+}
+
+func TestKeeperStaysWhenNothingComesBack(t *testing.T) {
+	k := refusing(t)
+	for what, c := range map[string][2]int{
+		"another client's": {2, 0}, "what another has": {1, 2}, "what is not lent": {4, 4}, "a free inode": {1, 6}, "inode 8": {1, 8},
+		"inode -1": {1, -1}, "a client without a loan": {3, 0}, "no client": {9, 0}, "client -1": {-1, 0}, "far numbers": {math.MaxInt, math.MinInt},
+	} {
+		got, code := impl.GiveBack(k, c[0], c[1])
+		holdStays(t, "GiveBack, "+what, k, got, code, impl.NoFile)
+	}
+}
+
+// TestGoesOnBehindRefusals: a liar who is refused takes nothing from the others.
+func TestGoesOnBehindRefusals(t *testing.T) {
+	k := mustLend(t, keeperOf(pattern(9, 768), givers()), 1, 1, 9)
+	k = writeInto(t, k, 1, fileOf(1, 1, "new", 7))
+	codes := [7]int{}
+	k, codes[0] = impl.Lend(k, 2, 1, 9)
+	k, codes[1] = impl.Lend(k, 2, 3, 9)
+	k, codes[2] = impl.Lend(k, 2, 7, 9)
+	k, codes[3] = impl.Lend(k, 2, 2, 101)
+	k, codes[4] = impl.Touch(k, 2, 32*7, "lie")
+	k, codes[5] = impl.Last(k, 2, 32*7, 3)
+	k, codes[6] = impl.GiveBack(k, 2, 1)
+	if codes != [7]int{impl.Busy, impl.Denied, impl.NoFile, impl.Wrong, impl.Fault, impl.Fault, impl.NoFile} {
+		t.Errorf("the codes are %v", codes)
+	}
+	k = mustBack(t, k, 1, 1, impl.Good)
+	if f := impl.Files(impl.Truth(k)); len(f) != 6 || f[1].Data != "new" {
+		t.Errorf("there is %s", impl.TreeText(impl.Truth(k)))
 	}
 }
 
@@ -1522,6 +1649,14 @@ func TestKeeperAnswersAreNewMemory(t *testing.T) {
 				holdNew(t, "Lend", k, lent)
 			}
 		}
+		none, _ := impl.Lend(k, 9, 0, 1)
+		holdNew(t, "Lend to none", k, none)
+		none, _ = impl.Touch(k, 1, 0, text)
+		holdNew(t, "Touch of the head", k, none)
+		none, _ = impl.Last(k, 1, 0, 1)
+		holdNew(t, "Last of the head", k, none)
+		none, _ = impl.GiveBack(k, 9, 0)
+		holdNew(t, "GiveBack of nothing", k, none)
 		for _, l := range k.Loans {
 			back, _ := impl.GiveBack(k, l.Client, l.Ino)
 			touched, _ := impl.Touch(k, l.Client, 32+16*l.Ino, text)
